@@ -1,0 +1,1 @@
+"""Rimword: floors laid with pieces, and words read along their rims."""
