@@ -82,3 +82,77 @@ def sides_to_the_left(cells, corner, word):
         told.append(((x + left[step][0], y + left[step][1]) in held,
                      (x + right[step][0], y + right[step][1]) in held))
     return told
+
+
+DOMINOES = [[(0, 0), (1, 0)], [(0, 0), (0, 1)]]
+BARS = [[(0, 0), (1, 0), (2, 0)], [(0, 0), (0, 1), (0, 2)]]
+# The four bent pieces of three cells; the last one's first cell, by rows, is
+# not at its least x.
+BENDS = [[(0, 0), (1, 0), (0, 1)], [(0, 0), (1, 0), (1, 1)],
+         [(0, 0), (0, 1), (1, 1)], [(1, 0), (0, 1), (1, 1)]]
+# Pieces handed in anywhere, and with their cells in any order.
+MIXED = [[(9, 4)], [(11, 10), (11, 11)], [(5, 6), (4, 6), (6, 6), (6, 5)],
+         [(3, 3), (2, 2), (3, 2), (2, 3)]]
+ALIKE = [[(0, 0)], [(1, 0), (0, 0)], [(7, 7)]]
+SETS = [DOMINOES, BARS, BENDS, MIXED, ALIKE, [[(0, 0), (1, 0)]]]
+
+
+def plainly_told(pieces):
+    """Each piece, moved to the least x 0 and the least y 0, row by row."""
+    told = []
+    for cells in pieces:
+        left = min(x for x, y in cells)
+        low = min(y for x, y in cells)
+        rows = sorted((y - low, x - left) for x, y in cells)
+        told.append([(x, y) for y, x in rows])
+    return told
+
+
+def every_laying(cells, pieces):
+    """Every laying: the greatest cell left is covered in each way."""
+    held = set(cells)
+    places = []
+    for piece, told in enumerate(plainly_told(pieces)):
+        for x in range(12):
+            for y in range(12):
+                covered = {(x + right, y + up) for right, up in told}
+                if covered <= held:
+                    places.append(((piece, x, y), covered))
+
+    def going_on(left):
+        if not left:
+            return [[]]
+        last = max(left)
+        return [[row, *rest] for row, covered in places
+                if last in covered and covered <= left
+                for rest in going_on(left - covered)]
+
+    return going_on(held)
+
+
+def in_steps(laying, pieces):
+    """The rows by the first cell that each of them covers, by y, then x."""
+    # The first cell of a piece is the first one told of it.
+    firsts = [cells[0] for cells in plainly_told(pieces)]
+    return sorted(laying, key=lambda row: (row[2] + firsts[row[0]][1],
+                                           row[1] + firsts[row[0]][0]))
+
+
+def small_floors(wide, high):
+    """The lists of cells of a box that are floors."""
+    return [cells for cells in subsets(wide, high) if has_one_rim(cells)]
+
+
+def led(point, word, pair):
+    """Where the word leads one point, looked up step by step."""
+    one, other = pair
+    for step in word:
+        if step == "e":
+            point = one[point]
+        elif step == "n":
+            point = other[point]
+        elif step == "w":
+            point, = [k for k in range(len(one)) if one[k] == point]
+        else:
+            point, = [k for k in range(len(other)) if other[k] == point]
+    return point
