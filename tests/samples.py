@@ -72,15 +72,25 @@ def has_one_rim(cells):
     return in_one_part(cells) and in_one_part(beyond)
 
 
+# The cells to the left and to the right of a step from (0, 0).
+LEFT = {"e": (0, 0), "n": (-1, 0), "w": (-1, -1), "s": (0, -1)}
+RIGHT = {"e": (0, -1), "n": (0, 0), "w": (-1, 0), "s": (-1, -1)}
+
+
+def cells_by(corner, step):
+    """The cell to the left of a step, and that to its right."""
+    x, y = corner
+    return [(x + beside[step][0], y + beside[step][1])
+            for beside in (LEFT, RIGHT)]
+
+
 def sides_to_the_left(cells, corner, word):
-    """For each step of a word the cell to its left and that to its right."""
-    left = {"e": (0, 0), "n": (-1, 0), "w": (-1, -1), "s": (0, -1)}
-    right = {"e": (0, -1), "n": (0, 0), "w": (-1, 0), "s": (-1, -1)}
+    """For each step whether the cell to its left is held, and to its right."""
     held = set(cells)
     told = []
-    for (x, y), step in zip(way(corner, word), word):
-        told.append(((x + left[step][0], y + left[step][1]) in held,
-                     (x + right[step][0], y + right[step][1]) in held))
+    for here, step in zip(way(corner, word), word):
+        left, right = cells_by(here, step)
+        told.append((left in held, right in held))
     return told
 
 
@@ -156,3 +166,125 @@ def led(point, word, pair):
         else:
             point, = [k for k in range(len(other)) if other[k] == point]
     return point
+
+
+def box(wide, high, right=0, up=0):
+    """The cells of a box, moved."""
+    return [(x + right, y + up) for x in range(wide) for y in range(high)]
+
+
+def drawn(*rows):
+    """The cells that rows of signs draw, the last one at y 0."""
+    return sorted((x, y) for y, row in enumerate(rows[::-1])
+                  for x, sign in enumerate(row) if sign == "#")
+
+
+def moved(cells, right, up):
+    return [(x + right, y + up) for x, y in cells]
+
+
+def exchanged(cells):
+    """x and y the other way."""
+    return [(y, x) for x, y in cells]
+
+
+# As many black cells as others, and yet no laying with dominoes: two cells
+# have the same one cell beside them.
+HOOK = drawn("..#.", "####", ".#..")
+# Twice as wide as high, the ends knocked off.
+TORN = drawn("#..#", "####", "#..#")
+# Forty cells, as many of them black as not: with many layings, and with none.
+BROAD = drawn("......####..", "......####..", "....########",
+              "....########", "....########", "....########")
+RAGGED = drawn("...#........", "..##.##.....", "...########.", "..##########",
+               ".....######.", "....########", "......###...")
+BRANCHED = drawn(".......#....", "......##....", "......#..#..",
+                 ".....#####..", ".....#####..", ".....####..#",
+                 ".....#######", "....########", ".....##.###.")
+
+
+def grown(many, chance):
+    """A floor of so many cells, one beside the other."""
+    cells = [(chance.randrange(12), chance.randrange(12))]
+    while len(cells) < many:
+        x, y = chance.choice(cells)
+        right, up = chance.choice([(1, 0), (0, 1), (-1, 0), (0, -1)])
+        cell = (x + right, y + up)
+        if cell not in cells and min(cell) >= 0 and max(cell) <= 11 and \
+                has_one_rim([*cells, cell]):
+            cells.append(cell)
+    return cells
+
+
+def piece_cells(piece):
+    """The two cells of (x, y, "e") or (x, y, "n")."""
+    x, y, letter = piece
+    return [(x, y), (x + 1, y) if letter == "e" else (x, y + 1)]
+
+
+def every_two_laying(cells):
+    """Every laying with pieces of two cells, each one rising."""
+    return [sorted((x, y, "en"[piece]) for piece, x, y in laying)
+            for laying in every_laying(cells, DOMINOES)]
+
+
+def sides_of(cells):
+    """Every step along a side of the cells: corner, letter, corner."""
+    return [(corner, step, way(corner, step)[1])
+            for corner in sorted({(x + right, y + up) for x, y in cells
+                                  for right in (0, 1) for up in (0, 1)})
+            for step in "enws" if set(cells_by(corner, step)) & set(cells)]
+
+
+def rise_by(corner, step, laying):
+    """By how much a step rises on a laid floor."""
+    left, right = cells_by(corner, step)
+    sign = 1 if sum(left) % 2 == 0 else -1
+    through = any(sorted(piece_cells(piece)) == sorted([left, right])
+                  for piece in laying)
+    return -3 * sign if through else sign
+
+
+def most_by(cells, corner, step):
+    """The most by which a step can rise; None along no side of the cells."""
+    left, right = cells_by(corner, step)
+    if left not in cells and right not in cells:
+        return None
+    if sum(left) % 2 == 0:
+        return 1
+    return 3 if left in cells and right in cells else -1
+
+
+def plain_heights(cells, laying):
+    """The heights, corner by corner from the first one."""
+    low = min(y for x, y in cells)
+    first = (min(x for x, y in cells if y == low), low)
+    told = {first: 0}
+    sides = sides_of(cells)
+    while len(told) < len({here for here, _, _ in sides}):
+        for here, step, there in sides:
+            if here in told:
+                rise = rise_by(here, step, laying)
+                told.setdefault(there, told[here] + rise)
+    return told
+
+
+def plainly_turned(laying, corner):
+    """The laying turned at a corner, or None."""
+    x, y = corner
+    around = {(x - 1, y - 1), (x, y - 1), (x - 1, y), (x, y)}
+    inner = [piece for piece in laying if set(piece_cells(piece)) <= around]
+    if len(inner) != 2:
+        return None
+    outer = [piece for piece in laying if piece not in inner]
+    if inner[0][2] == "e":
+        return sorted([*outer, (x - 1, y - 1, "n"), (x, y - 1, "n")])
+    return sorted([*outer, (x - 1, y - 1, "e"), (x - 1, y, "e")])
+
+
+def is_ring(cells, corner, word):
+    """Whether a way is a ring that shows that there is no laying."""
+    mosts = [most_by(cells, here, step)
+             for here, step in zip(way(corner, word), word)]
+    return (None not in mosts and sum(mosts) < 0
+            and way(corner, word)[-1] == corner)

@@ -5,7 +5,8 @@ import inspect
 import unittest
 from pathlib import Path
 
-from rimword import floors, groups, laying, pieces, words
+from rimword import (colours, floors, groups, heights, laying, notes, pieces,
+                     turns, words)
 
 ROOT = Path(__file__).resolve().parent.parent
 FOLDER = ROOT / "rimword"
@@ -24,6 +25,13 @@ FUNCTIONS = {
              "makes_nothing": ["pieces", "pair"],
              "shows": ["floor", "pieces", "pair"],
              "search": ["floor", "pieces", "most"]},
+    colours: {"signed": ["floor", "pieces", "wide", "high"]},
+    heights: {"highest": ["floor"],
+              "shows_ring": ["floor", "corner", "word"]},
+    turns: {"heights": ["floor", "laying"],
+            "turned": ["floor", "laying", "corner"],
+            "turns": ["floor", "one", "other"], "lowest": ["floor"]},
+    notes: {"written": ["floor"], "read": ["text"]},
 }
 CLASSES = {
     floors: {"Floor": {"__init__": ["self", "cells"], "cells": ["self"],

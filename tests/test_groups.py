@@ -9,8 +9,8 @@ from rimword.floors import Floor
 from rimword.groups import image, makes_nothing, search, shows, steps
 from rimword.laying import counted
 from rimword.pieces import Pieces
-from samples import (BARS, BENDS, CUP, DOMINOES, MIXED, ONE, SETS, SQUARE, led,
-                     small_floors)
+from samples import (BARS, BENDS, CUP, DOMINOES, MIXED, ONE, SETS, SQUARE, box,
+                     led, small_floors)
 
 SINGLE = ((0,), (0,))
 TWO = ((1, 0), (0, 1))
@@ -45,10 +45,6 @@ def brings_back(word, pair):
 
 def bring_pieces_back(pieces, pair):
     return all(brings_back(Floor(cells).rim(), pair) for cells in pieces)
-
-
-def box(wide, high):
-    return [(x, y) for x in range(wide) for y in range(high)]
 
 
 class Steps(unittest.TestCase):

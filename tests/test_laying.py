@@ -7,11 +7,7 @@ from rimword.floors import Floor
 from rimword.laying import counted, is_laid, laid
 from rimword.pieces import Pieces, dominoes
 from samples import (ALIKE, BARS, BENDS, CUP, DOMINOES, MIXED, ONE, SETS,
-                     SQUARE, STAIR, every_laying, in_steps, small_floors)
-
-
-def box(wide, high, right=0, up=0):
-    return [(x + right, y + up) for x in range(wide) for y in range(high)]
+                     SQUARE, STAIR, box, every_laying, in_steps, small_floors)
 
 
 def numbers(laying):
